@@ -1,0 +1,1 @@
+"""Boxfew: the fewest boxes, and why fewer don't do."""
