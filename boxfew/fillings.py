@@ -1,20 +1,33 @@
-"""A good packing into the fewest boxes, found by filling box after box."""
+"""Boxes filled one behind another; sets of things are kept as bits, the lowest for thing 0."""
 
 from boxfew.weighings import fitting_sets
 
 
+def onward(book):
+    """Tell for each set, borne by boxes in a row, what they bear with one more box behind, that bears something."""
+    full = (1 << len(book[1])) - 1
+    needs = _needs(book)
+    return [_with_one_more(mask, needs, full) for mask in range(full + 1)]
+
+
+def sums(parts):
+    """Tell for each set what its things' parts are together."""
+    found = [0]
+    for part in parts:
+        found = found + [total + part for total in found]
+    return found
+
+
 def fewest_filled(book):
     """Tell a good packing into the fewest boxes; there must be a good one."""
-    count = len(book[1])
-    needs = _needs(book)
-    full = (1 << count) - 1
-    # Sets of things are kept as bits. Each set that can fill the first boxes leads back to what
-    # the boxes before the last of these bear.
+    ways = onward(book)
+    full = len(ways) - 1
+    # Each set that can fill the first boxes leads back to what the boxes before the last of these bear.
     back = {0: 0}
     level = [0]
     while full not in back:
-        level = _next_level(level, back, needs, full)
-    return _packing(back, full, count)
+        level = _next_level(level, back, ways)
+    return _packing(back, full, len(book[1]))
 
 
 def _needs(book):
@@ -33,18 +46,26 @@ def _needs(book):
     return needs
 
 
-def _next_level(level, back, needs, full):
+def _with_one_more(mask, needs, full):
+    rest = full & ~mask
+    found = []
+    held = rest
+    while held:
+        filled = mask | held
+        if held in needs and not needs[held] & ~filled:
+            found.append(filled)
+        held = (held - 1) & rest
+    return found
+
+
+def _next_level(level, back, ways):
     """Fill one box more behind each of the sets of a level, and tell the sets that are new."""
     found = []
     for mask in level:
-        rest = full & ~mask
-        box = rest
-        while box:
-            filled = mask | box
-            if filled not in back and box in needs and not needs[box] & ~filled:
+        for filled in ways[mask]:
+            if filled not in back:
                 back[filled] = mask
                 found.append(filled)
-            box = (box - 1) & rest
     return found
 
 

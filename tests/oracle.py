@@ -1,6 +1,7 @@
 """What DOC.md says, told a second time in the plainest way, and books to try it on."""
 
 import random
+import re
 from itertools import combinations, permutations, product
 
 
@@ -29,6 +30,48 @@ def fewest_boxes(book, limit):
         if good_packings(book, many):
             return many
     return None
+
+
+def moved(told, packing):
+    return sum(wanted is not None and wanted != box for wanted, box in zip(told, packing))
+
+
+def refit(book, told, many, barred):
+    """The least of all good packings, tried one by one."""
+    found = [(moved(told, packing), packing) for packing in good_packings(book, many)
+             if not set(packing) & set(barred)]
+    return min(found) if found else None
+
+
+def spread(book, many):
+    found = [(heaviest_box(book, packing), packing) for packing in good_packings(book, many)]
+    return min(found) if found else None
+
+
+def heaviest_box(book, packing):
+    return max([sum(size for at, size in zip(packing, book[1]) if at == box) for box in packing], default=0)
+
+
+def written(book):
+    """The text of anything like a book, a good one or not."""
+    rows = [["room", book[0]], ["sizes", *book[1]], *[["apart", *pair] for pair in book[2]],
+            *[["ahead", *pair] for pair in book[3]]]
+    return "\n".join(" ".join(map(str, row)) for row in rows)
+
+
+NUMBER = " (0|[1-9][0-9]{0,8})"
+ROOM, SIZES = "room" + NUMBER, f"sizes({NUMBER})*"
+AHEAD, PAIR = "ahead" + NUMBER * 2, "(apart|ahead)" + NUMBER * 2
+
+
+def wrong_row(text):
+    """The row for which a text is refused with BadText, or None."""
+    rows = text.split("\n")
+    forms = [ROOM, SIZES] + [AHEAD if row.startswith("ahead") else PAIR for row in rows[1:]]
+    for at, row in enumerate(rows):
+        if not re.fullmatch(forms[at], row):
+            return at
+    return 1 if len(rows) == 1 else None
 
 
 def heavier(book, weights, most):

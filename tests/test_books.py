@@ -8,6 +8,9 @@ from boxfew.cases import is_shown
 from boxfew.errors import BadBook, NoPacking
 from boxfew.fewest import fewest, shows
 from boxfew.packings import is_good, loads
+from boxfew.refits import emptied, refit
+from boxfew.spreads import counted, spread
+from boxfew.texts import written
 from boxfew.weighings import heavier
 from tests import oracle
 
@@ -78,6 +81,11 @@ ASKED = {
     "is_shown": lambda book: is_shown(book, 1, ("nothing",)),
     "fewest": fewest,
     "shows": lambda book: shows(book, 1, ("nothing",)),
+    "refit": lambda book: refit(book, [None] * 20, 0, [0]),
+    "emptied": lambda book: emptied(book, [-1] * 20, -1),
+    "counted": lambda book: counted(book, 0),
+    "spread": lambda book: spread(book, 0),
+    "written": written,
 }
 
 

@@ -11,6 +11,9 @@ NAMES = {
     "boxfew.weighings": ("heavier",),
     "boxfew.cases": ("is_shown",),
     "boxfew.fewest": ("fewest", "shows"),
+    "boxfew.refits": ("refit", "emptied"),
+    "boxfew.spreads": ("counted", "spread"),
+    "boxfew.texts": ("written", "read"),
     "boxfew.errors": ("BoxError", "BadBook", "BadPacking", "NoPacking", "NoBox", "BadText"),
 }
 
